@@ -1,0 +1,1 @@
+"""Volumes in the form of NTFS, read strictly."""
