@@ -21,7 +21,7 @@ class HeldInClusters:
         data = attribute.data
         must(len(data) >= 64)
         must(number_at(data, 16, 8) == 0)
-        clusters = number_at(data, 24, 8) + 1
+        clusters = clusters_told(data)
         self.layout = layout
         self.size = number_at(data, 48, 8)
         self.begun = number_at(data, 56, 8)
@@ -46,6 +46,11 @@ class HeldInClusters:
                 found.extend(run_part(self.layout, run, low - run_place, high - low))
             run_place = run_end
         return found
+
+
+# What stands there is one less, and of no clusters that is -1: so it is read with a sign.
+def clusters_told(data):
+    return signed_number_at(data, 24, 8) + 1
 
 
 # Where the run begins is None for one of zeros.

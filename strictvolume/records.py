@@ -36,7 +36,6 @@ class Volume:
         self.layout = Layout(image)
         self.stream = records_held(self.layout)
         self.top = self.record(TOP_FOLDER)
-        must(self.top.is_folder)
 
     def record(self, number):
         length = self.layout.record_length

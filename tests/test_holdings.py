@@ -120,10 +120,6 @@ class InClusters(Case):
             attribute = in_clusters(0x80, "", [(1, 100), (2, 110)], 0, 0, clusters)
             self.assertEqual(told_of(attribute), "f 0\n" if told else -3, clusters)
 
-    def test_no_clusters_can_not_be_told(self):
-        self.assert_refused(stored(b"\0", 0))
-        self.assert_refused(stored(b"\0", 1))
-
     def test_what_is_not_looked_at(self):
         good = stored([(1, 100)], 1, 5)
         self.assert_size(self.changed(good, 34, 2 ** 48 - 1, 6), 5)
@@ -138,6 +134,63 @@ class InClusters(Case):
         self.assertEqual(answer(disk, "/deep/z1"), -5)
         self.assertEqual(answer(disk, "/deep/z1/x"), -4)
         self.assertEqual(answer(disk), SAMPLE_TOP)
+
+
+class NoClusters(Case):
+    """Of none, one less is eight bytes FFH."""
+
+    def test_the_bytes_that_tell_it(self):
+        self.assertEqual(stored(b"\0", 0)[24:32], b"\xff" * 8)
+
+    def test_a_file_without_bytes(self):
+        self.assert_size(stored(b"\0", 0), 0)
+        self.assert_size(in_clusters(0x80, "", [], 0, flags=0x8000), 0)
+        self.assert_size(stored(b"\0", 0), 0, per_cluster=8, clusters=30)
+
+    def test_bytes_told(self):
+        for size, begun in ((1, 1), (1, 0), (512, 0), (2 ** 63, 0), (2 ** 64 - 1, 0), (2 ** 64 - 1, 2 ** 64 - 1)):
+            self.assert_refused(stored(b"\0", 0, size, begun), (size, begun))
+
+    def test_begun_told(self):
+        for begun in (1, 512, 2 ** 64 - 1):
+            self.assert_refused(stored(b"\0", 0, 0, begun), begun)
+
+    def test_a_run(self):
+        self.assert_refused(stored([(1, 100)], 0))
+        self.assert_refused(stored([(1, None)], 0))
+        self.assert_refused(stored([(2 ** 32 - 1, None)], 0))
+
+    def test_no_run_and_clusters_told(self):
+        for clusters in (1, 2, 2 ** 32, 2 ** 63, 2 ** 64 - 1):
+            self.assert_refused(stored(b"\0", clusters), clusters)
+
+    def test_each_of_the_eight_bytes(self):
+        for place in range(24, 32):
+            for value in (0, 0x7F, 0xFE):
+                self.assert_refused(self.changed(stored(b"\0", 0), place, value, 1), (place, value))
+
+    def test_runs_that_do_not_end_within(self):
+        self.assert_refused(self.changed(stored(b"\0", 0), 32, 72, 2))
+        self.assert_refused(self.changed(stored(b"\0", 0), 32, 65535, 2))
+
+    def test_of_blocks(self):
+        none = in_clusters(0xA0, "$I30", [], 0)
+        for entries, told in (([entry("note", 22, 9)], "note 6\n"), ([], ""), ([last(0)], -3),
+                              ([entry("note", 22, 9, below=0), last(0)], -3)):
+            disk = sample()
+            disk.add_folder(17, entries, uses=4, attributes=[none])
+            self.assertEqual(answer(disk, "/folder"), told)
+
+    def test_of_blocks_with_bytes_told(self):
+        disk = sample()
+        disk.add_folder(17, [entry("note", 22, 9)], uses=4, attributes=[in_clusters(0xA0, "$I30", [], 1)])
+        self.assertEqual(answer(disk, "/folder"), -3)
+
+    def test_of_records_there_is_no_record_5(self):
+        disk = sample()
+        disk.add(0, [in_clusters(0x80, "", [], 0)])
+        for path in ("/", "x", ""):
+            self.assertEqual(answer(disk, path), -3)
 
 
 class Runs(Case):

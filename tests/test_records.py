@@ -2,8 +2,8 @@
 
 import unittest
 
-from volume_images import (SAMPLE_DEEP, SAMPLE_TOP, TOP, answer, attribute_place, entry, here, in_clusters, number, put,
-                           sample, up_to_8, wide)
+from volume_images import (MOST, SAMPLE_DEEP, SAMPLE_TOP, TOP, answer, attribute_place, entry, here, in_clusters,
+                           number, put, sample, up_to_8, wide)
 
 # A record, the paths on whose way it is looked at, and paths that are listed all the same.
 LOOKED_AT = (
@@ -343,11 +343,49 @@ class Numbers(unittest.TestCase):
         disk.add(0, [in_clusters(0x80, "", disk.records_runs, 6 * 1024 - 1)])
         self.assertEqual(answer(disk, "x"), -3)
 
-    def test_record_5_is_a_folder(self):
+
+class RecordFive(unittest.TestCase):
+    """It must be used, as every record; that it is a folder is what its bit 1 says, as of every record."""
+
+    def told(self, flags, path, most=MOST):
         disk = sample()
-        disk.records[TOP][22] = 1
-        for path in ("/", "/deep", "x", ""):
-            self.assertEqual(answer(disk, path), -3)
+        put(disk.records[TOP], 22, flags, 2)
+        return answer(disk, path, most)
+
+    def test_a_file_is_not_listed(self):
+        for flags in (1, 0xFFFD):
+            self.assertEqual(self.told(flags, "/"), -5, flags)
+            self.assertEqual(self.told(flags, "/", 0), -5, flags)
+
+    def test_no_path_goes_on_from_a_file(self):
+        for path in ("/deep", "/nothing", "/.", "//", "/folder/note", "/hello.txt"):
+            self.assertEqual(self.told(1, path), -4, path)
+
+    def test_a_path_that_does_not_begin_so(self):
+        for path in ("", "x", "deep", "./"):
+            self.assertEqual(self.told(1, path), -4, path)
+
+    def test_a_file_needs_no_entries(self):
+        disk = sample()
+        disk.add_file(TOP, b"top")
+        self.assertEqual(answer(disk, "/"), -5)
+        self.assertEqual(answer(disk, "/deep"), -4)
+
+    def test_a_folder_is_listed(self):
+        self.assertEqual(self.told(3, "/"), SAMPLE_TOP)
+        self.assertEqual(self.told(3, "/deep"), SAMPLE_DEEP)
+
+    def test_it_must_be_used(self):
+        for flags in (0, 2, 0xFFFE, 0xFFFC):
+            for path in ("/", "/deep", "//", "x", ""):
+                self.assertEqual(self.told(flags, path), -3, (flags, path))
+
+    def test_a_file_that_is_not_so(self):
+        disk = sample()
+        disk.add_file(TOP, b"top")
+        put(disk.records[TOP], 32, 1, 8)
+        for path in ("/", "/deep", "//", "x", ""):
+            self.assertEqual(answer(disk, path), -3, path)
 
 
 if __name__ == "__main__":
