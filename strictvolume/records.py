@@ -56,8 +56,19 @@ def records_held(layout):
     return held(layout, data)
 
 
-def file_size(layout, record):
+# None where the file has no such attribute: then it has no bytes.
+def file_held(layout, record):
     data = record.attribute(DATA, "")
-    if data is None:
-        return 0
-    return held(layout, data).size
+    return None if data is None else held(layout, data)
+
+
+def file_size(layout, record):
+    content = file_held(layout, record)
+    return 0 if content is None else content.size
+
+
+def file_part(layout, record, start, most):
+    content = file_held(layout, record)
+    if content is None or start >= content.size:
+        return []
+    return content.taken(start, min(most, content.size - start))

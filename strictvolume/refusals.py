@@ -14,3 +14,8 @@ class NotThere(Exception):
 # -5: the path leads to a file where a folder is asked for, or the other way round.
 class WrongSort(Exception):
     pass
+
+
+# -1: what is told has more bytes than may be.
+class TooMany(Exception):
+    pass

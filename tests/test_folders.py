@@ -323,6 +323,20 @@ class Entries(FolderCase):
         self.assert_listed([bytes(short), last(0)], -3, {0: []})
         self.assert_listed([bytes(tight), last(0)], "abc 6\n", {0: []})
 
+    def test_a_blocks_number_over_the_names_last_letter(self):
+        # The letter is the number's lowest byte, and a block of that number is there.
+        runs = [(32, None), (2, 150)]
+        attribute = in_clusters(0xA0, "$I30", runs, 34 * SECTOR)
+        roomy = bytearray(entry("abc ", 22, 9, below=32))
+        tight = roomy[:88] + number(32, 8)
+        put(tight, 8, 96, 2)
+        self.assertEqual((len(roomy), len(tight)), (104, 96))
+        for own, told in ((roomy, "abc  6\n"), (tight, -3)):
+            disk = sample()
+            disk.add_folder(17, [bytes(own), last(32)], uses=4, attributes=[attribute])
+            disk.add_block(17, 32, 150 * SECTOR, [])
+            self.assertEqual(answer(disk, "/folder"), told)
+
     def test_how_much_it_holds(self):
         for many in (0, 66, 66 + 7, 66 + 9, 66 + 10, 65535, 66 + 8 + 256):
             self.assert_refused(self.entry_changed(10, many, 2), note=many)

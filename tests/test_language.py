@@ -202,6 +202,7 @@ class Interface(unittest.TestCase):
         functions = {each.name: [arg.arg for arg in each.args.args]
                      for each in tree_of(PACKAGE / "volumes.py").body if isinstance(each, ast.FunctionDef)}
         self.assertEqual(functions["list_of"], ["most", "image", "path"])
+        self.assertEqual(functions["file"], ["start", "most", "image", "path"])
 
 
 if __name__ == "__main__":

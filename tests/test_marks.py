@@ -90,6 +90,31 @@ class Right(unittest.TestCase):
                 put(disk.records[6], 4, place, 2)
                 self.assertEqual(answer(disk), told, (length, place))
 
+    # Zeros are marks too: where all around is 0 they stand at every place, so that the place alone is wrong.
+    def test_greatest_place_and_one_behind_among_zeros(self):
+        for length, greatest in ((512, 506), (1024, 504), (2048, 500), (4096, 492)):
+            for place, told in ((greatest, "f 3\n"), (greatest + 2, -3), (greatest - 2, "f 3\n"), (greatest - 1, -3)):
+                disk = Disk(record_length=length, record_count=8)
+                disk.add_folder(TOP, [entry("f", 6)])
+                disk.add_file(6, b"abc")
+                put(disk.records[6], 4, place, 2)
+                image = disk.image()
+                begin = disk.record_place(6)
+                image[begin:begin + length] = disk.records[6]
+                self.assertEqual(answer(image), told, (length, place))
+
+    def test_greatest_place_in_a_block_among_zeros(self):
+        for length, greatest in ((512, 506), (1024, 504), (8192, 476), (65536, 252)):
+            for place, told in ((greatest, "f 3\n"), (greatest + 2, -3), (greatest - 2, "f 3\n"), (greatest - 1, -3)):
+                disk = Disk(block_length=length, record_count=8)
+                disk.add_folder(TOP, [last(0)], {0: [entry("f", 6)]})
+                disk.add_file(6, b"abc")
+                put(disk.blocks[TOP, 0], 4, place, 2)
+                image = disk.image()
+                begin = disk.block_places[TOP, 0]
+                image[begin:begin + length] = disk.blocks[TOP, 0]
+                self.assertEqual(answer(image), told, (length, place))
+
     def test_any_mark(self):
         disk = sample()
         image = disk.image()

@@ -4,7 +4,7 @@ A Disk keeps its first sector, its records and its blocks apart, as bytearrays w
 can change any byte of them before `image()` puts the marks in and lays all of it out.
 """
 
-from strictvolume.volumes import list_of
+from strictvolume.volumes import file, list_of
 
 SECTOR = 512
 MOST = 33554432
@@ -319,14 +319,27 @@ def as_bytes(path):
     return list(path.encode("latin-1"))
 
 
-def answer(disk, path="/", most=MOST):
-    """The listing as a text, or the refusal's number."""
-    image = disk.image() if isinstance(disk, Disk) else disk
-    told = list_of(most, image, as_bytes(path))
+def image_of(disk):
+    return disk.image() if isinstance(disk, Disk) else disk
+
+
+def checked(told):
+    """The bytes that are told, or the refusal's number."""
     if told[0] < 0:
         if len(told) != 1:
             raise AssertionError("a refusal is its number alone")
         return told[0]
     if told[0] != len(told) - 1:
         raise AssertionError("the first number says how many bytes follow")
-    return bytes(told[1:]).decode("latin-1")
+    return bytes(told[1:])
+
+
+def answer(disk, path="/", most=MOST):
+    """The listing as a text, or the refusal's number."""
+    told = checked(list_of(most, image_of(disk), as_bytes(path)))
+    return told.decode("latin-1") if isinstance(told, bytes) else told
+
+
+def file_answer(disk, path, start=0, most=MOST):
+    """The file's bytes, or the refusal's number."""
+    return checked(file(start, most, image_of(disk), as_bytes(path)))
